@@ -13,6 +13,9 @@ func common(x, y natural) natural {
 	if len(y) == 0 {
 		return x
 	}
+	if y.isOne() {
+		return y
+	}
 	_, rest := x.over(y)
 	if len(rest) == 0 {
 		return y

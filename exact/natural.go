@@ -58,8 +58,17 @@ func (x natural) minus(y natural) natural {
 	return trim(rest)
 }
 
+// isOne reports whether x is 1. Denominators often are, and need no work then.
+func (x natural) isOne() bool { return len(x) == 1 && x[0] == 1 }
+
 // times returns x * y.
 func (x natural) times(y natural) natural {
+	if x.isOne() {
+		return y
+	}
+	if y.isOne() {
+		return x
+	}
 	product := make([]uint64, len(x)+len(y))
 	for i := range len(x) {
 		addMultiple(product[i:], y, x[i])
@@ -100,7 +109,7 @@ func takeMultiple(rest []uint64, y natural, factor uint64) (borrow uint64) {
 
 // without returns x / y, where y is not 0 and divides x.
 func (x natural) without(y natural) natural {
-	if len(y) == 1 && y[0] == 1 {
+	if y.isOne() {
 		return x
 	}
 	quotient, _ := x.over(y)

@@ -65,6 +65,9 @@ func commonWord(x, y uint64) uint64 {
 	if x == 0 || y == 0 {
 		return x | y
 	}
+	if x == 1 || y == 1 {
+		return 1
+	}
 	twos := bits.TrailingZeros64(x | y)
 	x >>= bits.TrailingZeros64(x)
 	for y != 0 {
